@@ -24,8 +24,13 @@ def cheapest(row, prices):
     return min([cost + price for cost, price in zip(row, prices) if cost is not None], default=None)
 
 
+# Asked of a task that the hand of this row can do.
+def is_content(row, task, prices):
+    return row[task] + prices[task] == cheapest(row, prices)
+
+
 def all_content(rows, tasks, prices):
-    return all([row[task] + prices[task] == cheapest(row, prices) for row, task in zip(rows, tasks)])
+    return all([is_content(row, task, prices) for row, task in zip(rows, tasks)])
 
 
 def left_over_are_free(tasks, prices):

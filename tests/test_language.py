@@ -34,6 +34,22 @@ WORDS = re.compile(
 )
 
 
+NOT_USED = set("""
+    register mro elements open input version_info with_traceback add_note attrgetter breakpoint builtins compile
+    copyright credits delattr dir eval exec exit gc getattr globals hasattr help id importlib license locals
+    methodcaller os quit setattr super vars sys format format_map chr
+""".split())
+
+KEYWORDS = {
+    "sorted": {"key", "reverse"}, "min": {"key", "default"}, "max": {"key", "default"}, "sum": {"start"},
+    "enumerate": {"start"}, "zip": {"strict"},
+}
+
+VALUES_NOT_CALLED = set("""
+    items keys values pop update append clear extend insert remove reverse setdefault sort args encode format
+""".split())
+
+
 def package_files():
     return sorted(path for path in PACKAGE.rglob("*") if "__pycache__" not in path.parts and path.is_file())
 
@@ -106,6 +122,74 @@ class Language(unittest.TestCase):
             self.assertEqual(node.orelse, [], place)
         for place, node in self.nodes(ast.Constant):
             self.assertNotIsInstance(node.value, (float, complex, bytes), place)
+
+    def test_comparisons_by_is(self):
+        for place, node in self.nodes(ast.Compare):
+            for sign, side in zip(node.ops, node.comparators):
+                if isinstance(sign, (ast.Is, ast.IsNot)):
+                    self.assertIsInstance(side, ast.Constant, place)
+                    self.assertIn(side.value.__class__, (None.__class__, bool), place)
+
+    def test_comprehensions_texts_and_powers(self):
+        for place, node in self.nodes(ast.ListComp):
+            self.assertEqual(len(node.generators), 1, place)
+            self.assertLessEqual(len(node.generators[0].ifs), 1, place)
+        for place, node in self.nodes(ast.Constant):
+            self.assertNotIn("%", str(node.value), place)
+        for place, node in self.nodes(ast.BinOp):
+            if isinstance(node.op, ast.Pow):
+                self.assertIsInstance(node.right, ast.Constant, place)
+
+    def test_names_that_are_not_used(self):
+        for place, node in self.nodes(ast.Name, ast.Attribute, ast.arg, ast.FunctionDef):
+            name = [part for part in ("id", "attr", "arg", "name") if hasattr(node, part)][0]
+            self.assertNotIn(getattr(node, name), NOT_USED, place)
+
+    def test_keywords(self):
+        for place, node in self.nodes(ast.Call):
+            allowed = KEYWORDS.get(getattr(node.func, "id", None), set())
+            self.assertLessEqual({keyword.arg for keyword in node.keywords}, allowed, place)
+
+    def test_sets_are_not_kept(self):
+        for name, tree in self.trees.items():
+            for node in ast.walk(tree):
+                for child in ast.iter_child_nodes(node):
+                    if isinstance(child, ast.Call) and getattr(child.func, "id", None) in ("set", "frozenset"):
+                        within = isinstance(node, ast.Call) and getattr(node.func, "id", None) in ("len", "sorted")
+                        self.assertTrue(within or isinstance(node, ast.Compare), f"{name}:{child.lineno}")
+
+    def test_each_name_at_the_top_once_and_not_shadowed(self):
+        for name, tree in self.trees.items():
+            imported = [alias.name for node in tree.body if isinstance(node, ast.ImportFrom) for alias in node.names]
+            classes = [node.name for node in tree.body if isinstance(node, ast.ClassDef)]
+            functions = [node.name for node in tree.body if isinstance(node, ast.FunctionDef)]
+            top = imported + classes + functions
+            self.assertEqual(len(top), len(set(top)), name)
+            for node in ast.walk(tree):
+                bound = getattr(node, "arg", None) if isinstance(node, ast.arg) else None
+                if isinstance(node, ast.Name) and isinstance(node.ctx, ast.Store):
+                    bound = node.id
+                self.assertNotIn(bound, top, f"{name}:{getattr(node, 'lineno', 0)}")
+
+    def test_no_name_is_a_method_and_a_value(self):
+        values = {node.attr for place, node in self.nodes(ast.Attribute) if isinstance(node.ctx, ast.Store)}
+        self.assertEqual(values & own_methods(self.trees.values()), set())
+        self.assertEqual(values & VALUES_NOT_CALLED, set())
+
+    def test_imports_name_the_file_that_defines_and_go_one_way(self):
+        drawn = {name: set() for name in self.trees}
+        for name, tree in self.trees.items():
+            for node in ast.walk(tree):
+                if isinstance(node, ast.ImportFrom):
+                    source = node.module.split(".", 1)[1] + ".py"
+                    drawn[name].add(source)
+                    defined = {part.name for part in self.trees[source].body if hasattr(part, "name")}
+                    self.assertLessEqual({alias.name for alias in node.names}, defined, name)
+        while drawn:
+            free = [name for name in drawn if not drawn[name] & set(drawn)]
+            self.assertTrue(free, f"these draw from one another: {sorted(drawn)}")
+            for name in free:
+                del drawn[name]
 
 
 if __name__ == "__main__":

@@ -4,9 +4,7 @@ import unittest
 
 from hirefair.errors import NoDealing, NoPrices, NoTable
 from hirefair.showing import bound, shows_least, shows_short, total
-
-GREAT = 10 ** 100 - 1
-BEYOND = 10 ** 130 + 7
+from oracle import BEYOND, GREAT, all_dealings, cost_of, small_tables
 
 # Hands 0 and 1 both like task 0 best; hand 1 would lose the more without it.
 ROWS = [[1, 2, None], [1, 5, 9]]
@@ -15,26 +13,6 @@ PRICES = [1, 0, 0]
 
 # Hands 0, 2 and 3 have only the tasks 1 and 2 among them.
 SHORT = [[None, 3, None, None], [1, 1, 1, 1], [None, 4, 5, None], [None, None, 0, None]]
-
-
-def small_tables(costs, most_hands=2, most_tasks=2):
-    for many in range(most_tasks + 1):
-        for count in range(most_hands + 1):
-            for flat in itertools.product(costs, repeat=many * count):
-                yield many, [list(flat[many * hand:many * hand + many]) for hand in range(count)]
-
-
-def all_dealings(many, rows):
-    for tasks in itertools.permutations(range(many), len(rows)):
-        if None not in [row[task] for row, task in zip(rows, tasks)]:
-            yield list(tasks)
-
-
-def cost_of(rows, tasks):
-    answer = 0
-    for hand, task in enumerate(tasks):
-        answer += rows[hand][task]
-    return answer
 
 
 class Total(unittest.TestCase):

@@ -3,9 +3,7 @@ import unittest
 
 from hirefair.errors import NoHand, NoTable, NoTask
 from hirefair.table import raised, recosted
-
-GREAT = 10 ** 100 - 1
-BEYOND = 10 ** 130 + 7
+from oracle import BEYOND, GREAT
 
 
 def three_hands():
